@@ -1,0 +1,1 @@
+"""Ringlog: a log that goes round a small disk."""

@@ -1,0 +1,42 @@
+"""The eight words of a block that a log writes, and the row that some blocks hold together."""
+
+PIECE_WORDS = 3
+DATA_FROM = 4
+DATA_TO = 7
+
+
+def made(number, floor, begin, left, data):
+    """Tell the eight words of a block."""
+    return [number, floor, begin, left, *data, number]
+
+
+def kind(words, place, many):
+    """Tell what these words are in this place of a disk of many blocks: "empty", "whole" or "torn"."""
+    first, last = words[0], words[-1]
+    if first == 0 and last == 0:
+        return "empty"
+    if first == last and first >= many and first % many == place:
+        return "whole"
+    return "torn"
+
+
+def pieces(row):
+    """Tell the data of a row, three words for each of its blocks."""
+    data = [len(row), *row]
+    while len(data) % PIECE_WORDS != 0:
+        data.append(0)
+    return [data[at:at + PIECE_WORDS] for at in range(0, len(data), PIECE_WORDS)]
+
+
+def length_of(row):
+    """Tell how many blocks a row takes."""
+    return len(pieces(row))
+
+
+def words_of(some):
+    """Tell the row that all its blocks, in order, hold."""
+    data = []
+    for words in some:
+        data.extend(words[DATA_FROM:DATA_TO])
+    many = data[0]
+    return data[1:1 + many]
