@@ -1,6 +1,11 @@
 """The eight words of a block that a log writes, and the row that some blocks hold together."""
 
 PIECE_WORDS = 3
+# Where the words of a block stand.
+NUMBER = 0
+FLOOR = 1
+BEGIN = 2
+LEFT = 3
 DATA_FROM = 4
 DATA_TO = 7
 
