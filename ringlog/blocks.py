@@ -8,11 +8,35 @@ BEGIN = 2
 LEFT = 3
 DATA_FROM = 4
 DATA_TO = 7
+# The begin of a block that is of no row, and the left by which a mark and a farewell differ.
+NO_BEGIN = 0
+LEFT_OF_MARK = 0
+LEFT_OF_FAREWELL = 1
 
 
 def made(number, floor, begin, left, data):
     """Tell the eight words of a block."""
     return [number, floor, begin, left, *data, number]
+
+
+def made_mark(number, floor):
+    """Tell the eight words of a mark."""
+    return made(number, floor, NO_BEGIN, LEFT_OF_MARK, [0] * PIECE_WORDS)
+
+
+def made_farewell(number, floor):
+    """Tell the eight words of a farewell."""
+    return made(number, floor, NO_BEGIN, LEFT_OF_FAREWELL, [0] * PIECE_WORDS)
+
+
+def is_mark(words):
+    """Tell whether a whole block is a mark."""
+    return words[BEGIN] == NO_BEGIN and words[LEFT] == LEFT_OF_MARK
+
+
+def is_farewell(words):
+    """Tell whether a whole block is a farewell."""
+    return words[BEGIN] == NO_BEGIN and words[LEFT] == LEFT_OF_FAREWELL
 
 
 def kind(words, place, many):

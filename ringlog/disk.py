@@ -8,6 +8,7 @@ MOST_BLOCKS = 64
 BLOCK_WORDS = 8
 MOST_WORD = 10 ** 15
 MOST_COUNT = 10 ** 15
+MOST_PART = 7
 
 
 def _is_block(words):
@@ -64,7 +65,7 @@ class Disk:
         """Let count writes more be; of the next one only the first words come in, as many as part."""
         if not is_whole(count, 0, MOST_COUNT):
             raise BadStop("a stop's count is from 0 to 10 ** 15")
-        if not is_whole(part, 0, BLOCK_WORDS - 1):
+        if not is_whole(part, 0, MOST_PART):
             raise BadStop("a stop's part is from 0 to 7")
         self._let = count
         self._part = part

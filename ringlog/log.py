@@ -1,6 +1,6 @@
 """A log of rows that goes round a disk."""
 
-from ringlog.blocks import BEGIN, FLOOR, LEFT, NUMBER, PIECE_WORDS, made, pieces
+from ringlog.blocks import FLOOR, NUMBER, is_farewell, made, made_farewell, made_mark, pieces
 from ringlog.errors import BadRow, Empty, Full, Gone
 from ringlog.search import newest
 from ringlog.standing import cut_in, rows_in
@@ -8,20 +8,12 @@ from ringlog.whole import is_whole
 
 MOST_WORDS = 11
 MOST_WORD_OF_ROW = 999999999
-# The begin of a block that is of no row, and the left by which a mark and a farewell differ.
-NO_BEGIN = 0
-LEFT_OF_MARK = 0
-LEFT_OF_FAREWELL = 1
 
 
 def _is_row(row):
     if not isinstance(row, list) or len(row) > MOST_WORDS:
         return False
     return all([is_whole(word, 0, MOST_WORD_OF_ROW) for word in row])
-
-
-def _is_farewell(words):
-    return words[BEGIN] == NO_BEGIN and words[LEFT] == LEFT_OF_FAREWELL
 
 
 def _blocks_of_use(disk, number):
@@ -53,7 +45,7 @@ class Log:
         self._number = number
         self._torn = torn
         self._cut = cut_in(blocks)
-        self._gone = len(blocks) > 0 and _is_farewell(blocks[-1])
+        self._gone = len(blocks) > 0 and is_farewell(blocks[-1])
         self._rows = [] if self._gone else rows_in(blocks)
 
     def rows(self):
@@ -98,11 +90,23 @@ class Log:
         _, row = self._rows[0]
         later = self._rows[1:]
         floor = _floor_under(later, self._number)
-        mark = self._number + 1
-        self._write(made(mark, floor, NO_BEGIN, LEFT_OF_MARK, [0] * PIECE_WORDS))
+        number = self._number + 1
+        self._write(made_mark(number, floor))
         self._rows = later
-        self._wrote(mark, floor)
+        self._wrote(number, floor)
         return row
+
+    def take_all(self):
+        """Take all rows that stand by one mark, by which a log that had gone is there again."""
+        if self._rows or self._gone:
+            self._write_end(made_mark(self._number + 1, self._number))
+            self._gone = False
+
+    def leave(self):
+        """Write a farewell: the log has gone, and no row stands."""
+        self._need_here()
+        self._write_end(made_farewell(self._number + 1, self._number))
+        self._gone = True
 
     def _need_here(self):
         if self._gone:
@@ -110,6 +114,12 @@ class Log:
 
     def _write(self, words):
         self._disk.write(words[NUMBER] % self._disk.blocks(), words)
+
+    def _write_end(self, words):
+        """Write a mark or a farewell behind which no row stands."""
+        self._write(words)
+        self._rows = []
+        self._wrote(words[NUMBER], words[FLOOR])
 
     def _wrote(self, number, floor):
         """Keep in mind that a deed wrote its blocks, up to this number, with this floor."""

@@ -1,6 +1,6 @@
 """The rows that whole blocks, numbered one after the other, hold: those that are all there, and the cut ones."""
 
-from ringlog.blocks import BEGIN, LEFT, NUMBER, words_of
+from ringlog.blocks import BEGIN, LEFT, NO_BEGIN, NUMBER, words_of
 
 
 def rows_in(blocks):
@@ -18,7 +18,7 @@ def _by_row(blocks):
     found = []
     for words in blocks:
         # A mark and a farewell begin no row and belong to none.
-        if words[BEGIN] == 0:
+        if words[BEGIN] == NO_BEGIN:
             continue
         if words[BEGIN] == words[NUMBER]:
             found.append([])

@@ -6,13 +6,7 @@ from ringlog import log as log_file
 from ringlog.disk import Disk
 from ringlog.errors import BadRow, Empty, Full, Gone, LogError, Stopped
 from ringlog.log import Log
-from tests.model import Model, check, row_of, told_by, words_on
-
-NO_ROWS = [
-    None, True, False, 0, 5, "", "12", "123", (), (1, 2), {}, {1: 2}, b"12", [-1], [1000000000], [True], [False],
-    [None], ["5"], [""], [[1]], [(1,)], [5, -1], [1, 2, 3, 4, 5, 6, 7, 8, 9, 10, 1000000000], [0] * 12, [0] * 13,
-    [-999999999], [10 ** 15], [1, True, 2], [0, 0, None], list(range(100)), [True] * 12,
-]
+from tests.model import NO_ROWS, Model, check, row_of, told_by, words_on
 
 
 class LogCase(unittest.TestCase):

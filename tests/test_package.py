@@ -39,3 +39,14 @@ class PackageTest(unittest.TestCase):
                 if isinstance(node, ast.ImportFrom):
                     self.assertEqual(node.level, 0, path)
                     self.assertTrue(node.module.startswith("ringlog."), path)
+
+    def test_no_files_and_nothing_printed(self):
+        barred = {"open", "input", "print", "exec", "eval", "compile", "globals", "hash", "id"}
+        for path in FILES:
+            for node in ast.walk(ast.parse(path.read_text())):
+                if isinstance(node, ast.Name):
+                    self.assertNotIn(node.id, barred, path)
+
+    def test_the_files_of_the_interface_are_there(self):
+        for name in ("errors", "disk", "blocks", "search", "standing", "log", "carrying", "notes", "shell"):
+            self.assertIn(ROOT / "ringlog" / f"{name}.py", FILES)
